@@ -1,0 +1,1 @@
+"""Splitting a hide into layers: the split with the greatest value."""
