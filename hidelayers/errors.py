@@ -47,5 +47,8 @@ class HideTooThin(Refusal):
         self.code = -33
 
 
-class CallNotBuilt(Exception):
-    """A call that the program doesn't answer yet; no refusal, as no code stands for it."""
+class NoThickness(Refusal):
+    """No thickness of a hide is sufficient for the value."""
+
+    def __init__(self):
+        self.code = -33

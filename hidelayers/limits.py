@@ -9,6 +9,7 @@ MAX_PRICE = 99
 MAX_CUT_LOSS = 9
 MAX_CUTS = 5
 MAX_HIDE = 60
+MAX_VALUE = 999
 MAX_PRODUCTS = 6
 MAX_LAYERS = 6
 
@@ -34,6 +35,12 @@ def check_price(price):
 def check_hide(hide):
     """Refuse a hide that is too thick."""
     if hide > MAX_HIDE:
+        raise OutsideLimits()
+
+
+def check_value(value):
+    """Refuse a value that is never asked for."""
+    if value > MAX_VALUE:
         raise OutsideLimits()
 
 

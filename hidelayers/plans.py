@@ -1,6 +1,6 @@
-"""Plans as lists of thicknesses: their value, their use of the hide, their cuts, and all there are."""
+"""Plans as lists of thicknesses: their value, their use of the hide, their cuts, and which of them fit."""
 
-from hidelayers.limits import MAX_LAYERS
+from hidelayers.limits import MAX_HIDE, MAX_LAYERS
 
 
 def sum_of_prices(plan, prices):
@@ -25,6 +25,13 @@ def number_of_cuts(plan, cut_loss, hide):
     return len(plan) - 1
 
 
+def plan_fits(plan, cut_loss, max_cuts, hide):
+    """Tell whether the hide and the machine are enough for the plan."""
+    if used_thickness(plan, cut_loss) > hide:
+        return False
+    return number_of_cuts(plan, cut_loss, hide) <= max_cuts
+
+
 def longer_plans(plan, thicknesses):
     """List the plans that have one layer more than this one."""
     if len(plan) == MAX_LAYERS:
@@ -45,3 +52,26 @@ def plans_within(thicknesses, cut_loss, hide):
             if used_thickness(longer, cut_loss) <= hide:
                 waiting.append(longer)
     return plans
+
+
+def fitting_plans(thicknesses, cut_loss, max_cuts, hide):
+    """List the plans that fit the hide, in the order of plans."""
+    plans = plans_within(thicknesses, cut_loss, hide)
+    return [plan for plan in plans if plan_fits(plan, cut_loss, max_cuts, hide)]
+
+
+def greatest_value(prices, cut_loss, max_cuts, hide):
+    """Give the greatest value of a plan that fits the hide."""
+    # There is always one: the plan without layers fits every hide.
+    return max([sum_of_prices(plan, prices) for plan in fitting_plans(list(prices), cut_loss, max_cuts, hide)])
+
+
+def thinnest_hides(prices, cut_loss, max_cuts, value):
+    """List the thinnest hide of each plan that fits a hide and has at least this value."""
+    hides = []
+    for plan in plans_within(list(prices), cut_loss, MAX_HIDE):
+        # No thinner hide is enough for the plan, and none needs fewer cuts than the one that it uses up.
+        hide = used_thickness(plan, cut_loss)
+        if plan_fits(plan, cut_loss, max_cuts, hide) and sum_of_prices(plan, prices) >= value:
+            hides.append(hide)
+    return hides

@@ -1,6 +1,6 @@
 """The entrance of the program: the calls of a request, and the answer to each of them."""
 
-from hidelayers.errors import CallNotBuilt, NoSplitter, Refusal
+from hidelayers.errors import NoSplitter, Refusal
 from hidelayers.state import Splitter
 
 CREATE = 0
@@ -56,6 +56,58 @@ def answer_best_value(splitter, numbers):
     return [splitter.best_value(numbers[0])]
 
 
+def answer_best_plan(splitter, numbers):
+    """Answer call 10: hide."""
+    plan = splitter.best_plan(numbers[0])
+    return [len(plan)] + plan
+
+
+def answer_waste(splitter, numbers):
+    """Answer call 11: hide."""
+    return [splitter.waste(numbers[0])]
+
+
+def answer_plan_count(splitter, numbers):
+    """Answer call 12: hide."""
+    return [splitter.plan_count(numbers[0])]
+
+
+def answer_best_plan_count(splitter, numbers):
+    """Answer call 13: hide."""
+    return [splitter.best_plan_count(numbers[0])]
+
+
+def answer_value_table(splitter, numbers):
+    """Answer call 14: no numbers."""
+    values = splitter.value_table()
+    return [len(values)] + values
+
+
+def answer_least_thickness(splitter, numbers):
+    """Answer call 15: value."""
+    return [splitter.least_thickness(numbers[0])]
+
+
+def answer_value_with_machine(splitter, numbers):
+    """Answer call 16: cut_loss, max_cuts, hide."""
+    return [splitter.value_with_machine(numbers[0], numbers[1], numbers[2])]
+
+
+def answer_value_with_product(splitter, numbers):
+    """Answer call 17: thickness, price, hide."""
+    return [splitter.value_with_product(numbers[0], numbers[1], numbers[2])]
+
+
+def answer_layers_of_product(splitter, numbers):
+    """Answer call 18: hide, thickness."""
+    return [splitter.layers_of_product(numbers[0], numbers[1])]
+
+
+def answer_value_of_two(splitter, numbers):
+    """Answer call 19: first, second."""
+    return [splitter.value_of_two(numbers[0], numbers[1])]
+
+
 ANSWERED_BY = {
     1: answer_add_product,
     2: answer_remove_product,
@@ -66,6 +118,16 @@ ANSWERED_BY = {
     7: answer_fits,
     8: answer_cut_count,
     9: answer_best_value,
+    10: answer_best_plan,
+    11: answer_waste,
+    12: answer_plan_count,
+    13: answer_best_plan_count,
+    14: answer_value_table,
+    15: answer_least_thickness,
+    16: answer_value_with_machine,
+    17: answer_value_with_product,
+    18: answer_layers_of_product,
+    19: answer_value_of_two,
 }
 
 
@@ -73,8 +135,6 @@ def answer_call(splitter, number, numbers):
     """Answer a call other than create; without a splitter each of them is refused, whatever it is."""
     if splitter is None:
         raise NoSplitter()
-    if number not in ANSWERED_BY:
-        raise CallNotBuilt()
     return ANSWERED_BY[number](splitter, numbers)
 
 
